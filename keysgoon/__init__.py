@@ -1,0 +1,1 @@
+"""Letters between two whose keys go on."""
