@@ -38,12 +38,14 @@ def key_for(end, head, fresh):
     if number >= MOST_LETTERS:
         raise NotRight()
     place = kept_place(public, number)
-    if place in end.kept:
-        return end.kept.pop(place)
+    key = end.kept_key(place)
+    if key is not None:
+        end.drop_kept(place)
+        return key
     if end.read_chain is not None and public == end.their:
         if number < end.read:
             raise NotRight()
-        need_room(end, newly_kept(end, public, end.read, number))
+        need_room(end, number - end.read)
     else:
         turn_to(end, public, before, number, fresh)
     end.pass_over(number)
@@ -51,24 +53,15 @@ def key_for(end, head, fresh):
 
 
 def turn_to(end, public, before, number, fresh):
-    added = newly_kept(end, public, 0, number)
-    if end.read_chain is not None:
-        added += newly_kept(end, end.their, end.read, before)
-    need_room(end, added)
-    if end.read_chain is not None:
+    if end.read_chain is None:
+        need_room(end, number)
+    else:
+        need_room(end, max(before - end.read, 0) + number)
         end.pass_over(before)
     end.turn(public, fresh)
 
 
-# A public key that comes again may have keys kept from its earlier chain; a key of the
-# same number takes such a one's place and needs no room. Where more are passed over than
-# may be kept at all, nothing hangs on that, and going through up to 4294967295 numbers takes too long.
-def newly_kept(end, public, start, stop):
-    if stop - start > MOST_KEPT:
-        return stop - start
-    return len([number for number in range(start, stop) if kept_place(public, number) not in end.kept])
-
-
+# Asked before a chain goes on: a letter can tell of 4294967295 before it, and going through them takes too long.
 def need_room(end, added):
     if len(end.kept) + added > MOST_KEPT:
         raise TooManyKeys()

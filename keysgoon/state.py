@@ -17,7 +17,7 @@ class End:
         self.written = 0
         self.read = 0
         self.before = 0
-        self.kept = {}
+        self.kept = []
 
     def copied(self):
         other = End(self.root, self.own)
@@ -27,7 +27,7 @@ class End:
         other.written = self.written
         other.read = self.read
         other.before = self.before
-        other.kept = dict(self.kept)
+        other.kept = list(self.kept)
         return other
 
     def chain_with(self, public):
@@ -62,7 +62,17 @@ class End:
     def pass_over(self, number):
         while self.read < number:
             place = kept_place(self.their, self.read)
-            self.kept[place] = self.next_read_key()
+            self.kept.append((place, self.next_read_key()))
+
+    # A public key that comes again may have several keys kept at one place: the first of them holds.
+    def kept_key(self, place):
+        for pair in self.kept:
+            if pair[0] == place:
+                return pair[1]
+        return None
+
+    def drop_kept(self, place):
+        self.kept = [pair for pair in self.kept if pair[0] != place]
 
 
 def letter_key(chain):

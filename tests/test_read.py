@@ -190,17 +190,66 @@ class NewKey(ReadCase):
         self.check_refused(ahead, refused, -4, behind)
         self.assertNotIn([-4], ask(ahead + behind))
 
-    def test_a_public_key_that_comes_again(self):
-        # Its new chain's keys take the place of those that were kept by the same public key and number.
-        ahead = BEGIN + [self.read(40)]
-        first = Partner(A0, public_key(B0))
+
+class KeyThatComesAgain(ReadCase):
+    def again(self, passed):
+        """As many keys of the first chain are kept; then, behind another public key, the first one comes again."""
+        ahead = BEGIN + [self.read(passed)]
+        self.first = Partner(A0, public_key(B0))
         self.partner.answered(B1, A1)
-        ahead.append(self.read(0, B2, before=41))
+        ahead.append(self.read(0, B2, before=passed + 1))
         self.partner.answered(B2, A0)
-        self.check_refused(ahead, [self.read(3, A2, before=1)], -4, [read_call(1, first.letter(3, b"old"))])
-        self.check_refused(ahead, [self.read(65, A2, before=1)], -5, [self.read(41, A2, before=1)])
-        behind = [self.read(64, A2, before=1), self.read(3), read_call(1, first.letter(4))]
-        self.assertEqual(ask(ahead + behind)[3:], [counted(text_of(64)), counted(text_of(3)), [-4]])
+        return ahead
+
+    def new(self, number):
+        return self.read(number, A2, before=1)
+
+    def old(self, number):
+        return read_call(1, self.first.letter(number, b"old %d" % number))
+
+    def test_an_earlier_key_is_not_lost(self):
+        ahead = self.again(3)
+        behind = [self.new(5), self.old(2), self.old(0), self.new(4), self.new(3), self.old(1), self.new(6)]
+        texts = [b"text 5", b"old 2", b"old 0", b"text 4", b"text 3", b"old 1", b"text 6"]
+        self.assertEqual(ask(ahead + behind)[3:], [counted(text) for text in texts])
+
+    def test_a_letter_is_held_against_the_key_that_was_kept_first(self):
+        ahead = self.again(3)
+        # Before the new chain is there, and behind it, when a key of its own is kept too.
+        self.check_refused(ahead, [self.new(0), self.new(2)], -4, [self.new(3), self.old(0), self.old(2)])
+        ahead.append(self.new(3))
+        self.check_refused(ahead, [self.new(0), self.new(2)], -4, [self.old(0), self.old(2), self.new(4)])
+        self.assertEqual(ask(ahead + [self.old(2)])[-1], counted(b"old 2"))
+
+    def test_none_is_kept_when_one_was_used(self):
+        ahead = self.again(3) + [self.new(5), self.old(1)]
+        self.check_refused(ahead, [self.old(1), self.new(1)], -4, [self.old(0), self.old(2), self.new(4)])
+
+    def test_three_chains_of_one_public_key(self):
+        ahead = self.again(2) + [self.new(3)]
+        self.partner.answered(A2, A1)
+        ahead.append(self.read(0, B1, before=4))
+        self.partner.answered(B1, A0)
+        ahead.append(self.read(4, B2, before=1))
+        # Number 2 was first kept of the second chain, 3 of the third alone.
+        second = Partner(A0, public_key(B0))
+        second.answered(B1, A1)
+        second.answered(B2, A0)
+        behind = [self.old(1), read_call(1, second.letter(2, b"second")), self.read(3)]
+        self.assertEqual(ask(ahead + behind)[-3:], [counted(b"old 1"), counted(b"second"), counted(text_of(3))])
+        self.check_refused(ahead, [self.read(number) for number in (0, 1, 2)], -4, behind)
+
+    def test_all_of_them_need_room(self):
+        ahead = self.again(30)
+        self.check_refused(ahead, [self.new(35), self.new(64), self.new(65)], -5, [self.new(34), self.new(35)])
+        self.assertEqual(ask(ahead + [self.new(34), self.new(35)])[-2:], [counted(b"text 34"), counted(b"text 35")])
+        full = ahead + [self.new(34)]
+        self.check_refused(full, [self.new(36)], -5, [self.new(35)])
+
+    def test_using_one_makes_room_for_all_of_its_place(self):
+        full = self.again(30) + [self.new(34), self.old(7)]
+        self.check_refused(full, [self.new(38)], -5, [self.new(37), self.new(36)])
+        self.assertEqual(ask(full + [self.new(37)])[-1], counted(b"text 37"))
 
 
 class Room(ReadCase):
