@@ -9,6 +9,7 @@ MOST_TEXT = 65536
 LEAST_LETTER = 56
 MOST_LETTER = 65592
 MOST_BESIDE = 4096
+MOST_WHAT = 4
 
 
 class Source:
@@ -65,6 +66,12 @@ def answer_to(source, ends):
         return call_write(source, ends)
     if call == 3:
         return call_read(source, ends)
+    if call == 4:
+        return call_told(source, ends)
+    if call == 5:
+        return call_forget(source, ends)
+    if call == 6:
+        return call_own(source, ends)
     raise ValueError("there is no such call")
 
 
@@ -108,6 +115,37 @@ def call_read(source, ends):
     text = read_letter(end, letter, beside, fresh)
     ends[which] = end
     return [len(text)] + text
+
+
+def call_told(source, ends):
+    which = source.take_number()
+    what = source.take_number()
+    need_range(what, 0, MOST_WHAT)
+    return [told(ends[which], what)]
+
+
+def call_forget(source, ends):
+    end = ends[source.take_number()]
+    many = len(end.kept)
+    end.kept = []
+    return [many]
+
+
+def call_own(source, ends):
+    end = ends[source.take_number()]
+    return [0] + public_key(end.own)
+
+
+def told(end, what):
+    if what == 0:
+        return end.written
+    if what == 1:
+        return end.read
+    if what == 2:
+        return end.before
+    if what == 3:
+        return len(end.kept)
+    return 0 if end.write_chain is None else 1
 
 
 def need_range(number, least, most):

@@ -55,6 +55,23 @@ def read_call(end, letter, beside=b"", fresh=B1):
     return [3, end] + counted(letter) + counted(beside) + counted(fresh)
 
 
+def told_call(end, what):
+    return [4, end, what]
+
+
+def forget_call(end):
+    return [5, end]
+
+
+def own_call(end):
+    return [6, end]
+
+
+def all_told(end):
+    """The calls that tell all that an end tells of itself: its five numbers, and own's public key."""
+    return [told_call(end, what) for what in range(5)] + [own_call(end)]
+
+
 def ask(calls):
     """The answers to a list of calls, each a list of its own, without its count."""
     flat = answers([number for call in calls for number in call])
@@ -64,6 +81,12 @@ def ask(calls):
         assert len(parts[-1]) == flat[0]
         flat = flat[1 + flat[0]:]
     return parts
+
+
+def ends_there(calls):
+    """The ends for which a dr_init among the calls has answered 0."""
+    pairs = zip(calls, ask(calls))
+    return sorted({call[1] for call, answer in pairs if call[0] == 1 and answer == [0]})
 
 
 def without(parts, start, count):
@@ -122,6 +145,21 @@ class EndsCase(unittest.TestCase):
         start = len(ahead)
         self.assertEqual(whole[start:start + len(refused)], [[number]] * len(refused))
         self.assertEqual(without(whole, start, len(refused)), ask(ahead + behind))
+        # In parts, since a list has at most 400 calls.
+        for part in range(0, len(refused), 20):
+            self.check_told_the_same(ahead, refused[part:part + 20], number)
+
+    def check_told_the_same(self, ahead, refused, number):
+        """Behind each of the refused calls, each end that is there tells of itself what it told before."""
+        tell = [call for end in ends_there(ahead) for call in all_told(end)]
+        result = ask(ahead + tell + [call for wrong in refused for call in [wrong] + tell])[len(ahead):]
+        before = result[:len(tell)]
+        self.assertEqual(result[len(tell):], ([[number]] + before) * len(refused))
+
+    def check_told(self, calls, end, numbers):
+        """Behind the calls, the end tells these: written, read, on the chain before, kept, a chain to write on."""
+        result = ask(calls + [told_call(end, what) for what in range(5)])
+        self.assertEqual(result[len(calls):], [[number] for number in numbers])
 
     def check_read(self, calls, text):
         """The last of the calls reads this text."""
